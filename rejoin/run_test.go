@@ -407,6 +407,47 @@ func TestOneThatIsBehindCatchesUp(t *testing.T) {
 	}
 }
 
+// Two start again at once, and message by message it is told who hears of whom: 0 answers 3 first, 1 and 2 answer 4 first.
+func TestTwoReturnAtOnce(t *testing.T) {
+	g := newRun(t, five, make(map[string]int))
+	g.requests(write(7, "a"), 1)
+	g.allComes(t)
+	g.crashes(3)
+	g.crashes(4)
+	g.startsAgain(t, 3)
+	g.startsAgain(t, 4)
+	asked := g.pool // of 3 to 0, 1, 2, 4; of 4 to 0, 1, 2, 3
+	g.pool = nil
+	for _, at := range []int{0, 4, 5, 1, 6, 2, 3, 7} {
+		g.comes(t, asked[at].To, asked[at].Msg)
+	}
+	answers := g.pool // of 0 to 3, to 4; of 1 to 4, to 3; of 2 to 4, to 3; who recovers has answered nobody
+	g.pool = nil
+	if len(answers) != 6 {
+		t.Fatal(answers)
+	}
+	for _, at := range []int{0, 3} {
+		g.comes(t, 3, answers[at].Msg)
+	}
+	if s := g.states[3]; s.Status != api.StatusRecovering || s.Vector[4] != lo(2) { // 1 has told it of 4
+		t.Fatal(s)
+	}
+	g.comes(t, 3, answers[5].Msg)
+	if s := g.states[3]; s.Status != api.StatusNormal || len(s.Log) != 1 || s.Commit != 1 {
+		t.Fatal(s)
+	}
+	for _, at := range []int{2, 4, 1} { // till 0's comes it knows nothing of 3, nor has it a log
+		if s := g.states[4]; s.Status != api.StatusRecovering {
+			t.Fatal(s)
+		}
+		g.comes(t, 4, answers[at].Msg)
+	}
+	want := api.State{Self: 4, Status: api.StatusNormal, Log: g.asked, Commit: 1, Vector: los(0, 0, 0, 1, 2)}
+	if !same(g.states[4], want) || g.states[3].Vector[4] != lo(2) {
+		t.Error(g.states[3], g.states[4])
+	}
+}
+
 // P12.10: two replicas start again while all others stay up, in one view. What is sent comes in any order, again, or never.
 func TestTwoThatReturnKnowOfEachOther(t *testing.T) {
 	r := rand.New(rand.NewPCG(12, 8))
